@@ -1,0 +1,1 @@
+"""Cutscribe: longest-match lexers, incremental tokenizing and shortest source texts."""
