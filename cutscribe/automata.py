@@ -1,33 +1,66 @@
-"""Minimal automata in standard order."""
+"""Minimal automata in standard order: of one pattern, and of several patterns that read the same text."""
 
 from cutscribe.errors import TooLarge
 from cutscribe.machines import Machine, START
 
 MOST_STATES = 40
+MOST_TOGETHER = 200
 
 
 def automaton(alphabet, pattern):
     """Return the minimal automaton in standard order that marks with True the texts that the pattern matches."""
-    rows, marks = _explored(alphabet, Machine(alphabet, pattern))
+    machine = Machine(alphabet, pattern)
+    states, rows = _explored(START, lambda here: [machine.step(here, character) for character in alphabet])
+    marks = [machine.accepts(state) for state in states]
     classes = _classes(rows, marks)
     if max(classes) >= MOST_STATES:
         raise TooLarge("pattern")
     return _merged(rows, marks, classes)
 
 
-def _explored(alphabet, machine):
-    """Return rows and marks of all states that a breadth-first walk of the machine reaches, in the walk's order."""
-    numbers = {START: 0}
-    states = [START]
+def joint_automaton(alphabet, parts):
+    """Return the minimal automaton in standard order that tells which of several others is the first to match.
+
+    The parts are automata of patterns. The mark of a text is the index of the first part that marks it with True,
+    or None.
+    """
+    first = tuple([0 for _ in parts])
+    states, rows = _explored(first, lambda here: _steps(alphabet, parts, here), MOST_TOGETHER)
+    if len(states) > MOST_TOGETHER:
+        raise TooLarge("mode")
+    marks = [_first_true(parts, together) for together in states]
+    return _merged(rows, marks, _classes(rows, marks))
+
+
+def _steps(alphabet, parts, together):
+    """Return for each character the tuple of the next states of the parts."""
+    rows = [part[0][state] for part, state in zip(parts, together)]
+    return [tuple([row[column] for row in rows]) for column in range(len(alphabet))]
+
+
+def _first_true(parts, together):
+    for index, state in enumerate(together):
+        if parts[index][1][state]:
+            return index
+    return None
+
+
+def _explored(first, steps, most=None):
+    """Return the states that a breadth-first walk reaches and their rows, both in the walk's order.
+
+    The walk is given up, and the rows are not complete, when there are more than most states.
+    """
+    numbers = {first: 0}
+    states = [first]
     rows = []
-    while len(rows) < len(states):
-        reached = [machine.step(states[len(rows)], character) for character in alphabet]
-        for after in reached:
+    while len(rows) < len(states) and (most is None or len(states) <= most):
+        following = steps(states[len(rows)])
+        for after in following:
             if after not in numbers:
                 numbers[after] = len(states)
                 states.append(after)
-        rows.append([numbers[after] for after in reached])
-    return rows, [machine.accepts(state) for state in states]
+        rows.append([numbers[after] for after in following])
+    return states, rows
 
 
 def _classes(rows, marks):

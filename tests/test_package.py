@@ -1,6 +1,7 @@
 """The layout of the package, where its interface is defined, and the plainest rules of form."""
 
 import ast
+import builtins
 import importlib
 import inspect
 import os
@@ -13,7 +14,17 @@ INTERFACE = {
     "errors": {"CutError": "(ValueError)"},
     "patterns": {"is_pattern": "(alphabet, value)", "matches": "(alphabet, pattern, text)"},
     "automata": {"automaton": "(alphabet, pattern)"},
+    "lexers": {"Lexer": {"__init__": "(self, alphabet, modes)", "mode_names": "(self)", "rules": "(self, mode)",
+                         "automaton": "(self, mode)", "is_flat": "(self)", "__len__": "(self)",
+                         "__eq__": "(self, other)"}},
+    "tokens": {"tokenize": "(lexer, text)", "scan": "(lexer, text)"},
+    "streams": {"Stream": {"__init__": "(self, lexer)", "feed": "(self, text)", "finish": "(self)",
+                           "pending": "(self)", "current_mode": "(self)", "stack": "(self)", "copy": "(self)"}},
+    "configurations": {"successors": "(lexer, configuration, character)",
+                       "configurations": "(lexer, *, most=400)", "path": "(lexer, text)"},
 }
+BUILTINS = ("len range enumerate zip min max sum abs sorted reversed int str bool list tuple dict set isinstance ord "
+            "repr any all divmod ValueError").split()
 
 
 def files():
@@ -39,6 +50,14 @@ class Package(unittest.TestCase):
                 self.assertEqual(value.__module__, "cutscribe." + name)
                 if inspect.isfunction(value):
                     self.assertEqual(str(inspect.signature(value)), signature)
+                elif isinstance(signature, dict):
+                    self.check_methods(value, signature)
+
+    def check_methods(self, value, signatures):
+        """Each method is defined in the class itself."""
+        for name, signature in signatures.items():
+            self.assertIn(name, vars(value))
+            self.assertEqual(str(inspect.signature(vars(value)[name])), signature)
 
     def test_it_contains_only_small_files_of_plain_characters(self):
         for name in files():
@@ -62,6 +81,28 @@ class Package(unittest.TestCase):
                 if isinstance(node, ast.ImportFrom):
                     self.assertTrue(node.module.startswith("cutscribe."), name)
                     self.assertEqual(node.level, 0, name)
+
+    def test_it_uses_few_builtins_and_gives_none_of_them_another_meaning(self):
+        for name in files():
+            for node in ast.walk(ast.parse(source(name))):
+                if isinstance(node, ast.Name) and node.id in vars(builtins):
+                    self.assertIn(node.id, BUILTINS, name)
+                    self.assertIsInstance(node.ctx, ast.Load, name)
+                elif isinstance(node, (ast.FunctionDef, ast.ClassDef)):
+                    self.assertFalse(node.name in vars(builtins), node.name)
+                elif isinstance(node, ast.arg):
+                    self.assertFalse(node.arg in vars(builtins), node.arg)
+
+    def test_nothing_local_has_the_name_of_a_class_or_an_import_of_its_file(self):
+        for name in files():
+            tree = ast.parse(source(name))
+            bound = [alias.name for node in tree.body if isinstance(node, ast.ImportFrom) for alias in node.names]
+            bound += [node.name for node in tree.body if isinstance(node, ast.ClassDef)]
+            for node in ast.walk(tree):
+                if isinstance(node, ast.arg):
+                    self.assertNotIn(node.arg, bound, name)
+                elif isinstance(node, ast.Name) and not isinstance(node.ctx, ast.Load):
+                    self.assertNotIn(node.id, bound, name)
 
 
 if __name__ == "__main__":
