@@ -30,6 +30,13 @@ def one_mode(*rules, alphabet="ab"):
     return (alphabet, [("main", list(rules))])
 
 
+def cycles(*lengths):
+    """A lexer with a word for one a, and for each length one for a b behind a multiple of so many a."""
+    return one_mode(word("x", A), *[
+        word("abcde"[at], ("row", ("again", ("row",) + (A,) * length, 0, None), B))
+        for at, length in enumerate(lengths)])
+
+
 # Every lexer is given by its alphabet and its modes.
 DOCUMENT = one_mode(word("x", A), word("y", AAB), gap("g", B))
 WITHOUT_Y = one_mode(word("x", A), gap("g", B))
@@ -48,6 +55,11 @@ TURNS = ("ab", [
 CROSSING = ("ab", [
     ("p", [gap("x", A, ("go", "q")), word("l", ("row", A, A, A, A, B))]),
     ("q", [word("y", A, ("go", "p")), word("m", ("row", A, B, B)), gap("b", B)])])
+# The texts aa and ab lead to the same place, each by another way behind a.
+MEETING = ("ab", [
+    ("m", [gap("u", A, ("go", "n")), gap("s", ("row", A, B), ("go", "o"))]),
+    ("n", [gap("v", A, ("go", "o"))]),
+    ("o", [word("t", A)])])
 NESTED = ("abc", [
     ("top", [word("w", A_PLUS), gap("open", B, ("enter", "in")), gap("stray", C, LEAVE)]),
     ("in", [word("t", A), word("deep", ("row", A, B), ("enter", "in")), gap("again", B, ("enter", "top")),
@@ -58,9 +70,29 @@ LEAVING = ("ab", [
     ("t", [gap("out", AB, LEAVE)])])
 
 FLAT = [DOCUMENT, WITHOUT_Y, UNLIMITED, NO_RULES, NEVER_MATCHED, ONLY_LONG, KEY_FIRST, NAME_FIRST, WITH_NOT,
-        EVERYTHING, TURNS, CROSSING]
+        EVERYTHING, TURNS, CROSSING, MEETING]
 NOT_FLAT = [NESTED, LEAVING]
 ALL = FLAT + NOT_FLAT
+
+
+# Lexers with 400 and 401 reachable configurations.
+CYCLES = cycles(3, 5)[1][0][1] + [gap("g", C, ("go", "n"))]
+NINES = word("z", ("row", ("again", ("row",) + (A,) * 9, 0, None), B))
+FOUR_HUNDRED = ("abc", [("main", CYCLES), ("n", [word("y", ("row",) + (C,) * 7), NINES])])
+ONE_MORE = ("abc", [("main", CYCLES), ("n", [word("y", ("row",) + (C,) * 5), NINES,
+                                             word("w", ("row",) + (C,) * 8 + (A,))])])
+
+
+# Lexers of gaps alone, with 400 and 401 positions that are reachable without words.
+GAP_CYCLES = [rule[:2] + (False,) + rule[3:] for rule in CYCLES]
+GAP_NINES = gap("z", NINES[1])
+FOUR_HUNDRED_GAPS = ("abc", [
+    ("main", GAP_CYCLES),
+    ("n", [gap("y", ("row",) + (C,) * 8), GAP_NINES, gap("s", A), gap("h", ("row", B, C), ("go", "o"))]),
+    ("o", [gap("p", ("row",) + (B,) * 7)])])
+ONE_MORE_GAP = ("abc", [
+    ("main", GAP_CYCLES),
+    ("n", [gap("y", ("row",) + (C,) * 3), GAP_NINES, gap("s", A), gap("w", ("row",) + (C,) * 8 + (A,))])])
 
 
 def built(given):

@@ -9,7 +9,7 @@ from cutscribe.configurations import configurations, path, successors
 from cutscribe.errors import CutError, NotFlat, TooLarge
 from cutscribe.lexers import Lexer
 from tests import lexing
-from tests.lexing import A, AB, B, C, LEAVE, STAY, built, gap, word
+from tests.lexing import A, AB, B, C, LEAVE, STAY, built, cycles, gap, word
 
 FIRST = (0, "start", 0, ())
 X = ("x", "word")
@@ -22,13 +22,6 @@ def start(*pending, mode=0):
 
 def inside(state, *pending, mode=0):
     return (mode, "inside", state, pending)
-
-
-def cycles(*lengths):
-    """A lexer with a word for one a, and for each length one for a b behind a multiple of so many a."""
-    return lexing.one_mode(word("x", A), *[
-        word("abcde"[at], ("row", ("again", ("row",) + (A,) * length, 0, None), B))
-        for at, length in enumerate(lengths)])
 
 
 def made_by_hand(given):
@@ -253,16 +246,10 @@ class Configurations(Checks):
         self.assertEqual(len(configurations(built(cycles(3, 5)))), 273)
 
     def test_most_left_out_is_four_hundred(self):
-        main = cycles(3, 5)[1][0][1] + [gap("g", C, ("go", "n"))]
-        nines = word("z", ("row", ("again", ("row",) + (A,) * 9, 0, None), B))
-        for other, many in (([word("y", ("row",) + (C,) * 7), nines], 400),
-                            ([word("y", ("row",) + (C,) * 5), nines, word("w", ("row",) + (C,) * 8 + (A,))], 401)):
-            lexer = Lexer("abc", [("main", main), ("n", other)])
-            self.assertEqual(len(configurations(lexer, most=401)), many)
-            if many == 400:
-                self.assertEqual(len(configurations(lexer)), 400)
-            else:
-                self.too_large(lexer)
+        self.assertEqual(len(configurations(built(lexing.FOUR_HUNDRED), most=401)), 400)
+        self.assertEqual(len(configurations(built(lexing.FOUR_HUNDRED))), 400)
+        self.assertEqual(len(configurations(built(lexing.ONE_MORE), most=401)), 401)
+        self.too_large(built(lexing.ONE_MORE))
 
     def test_returned_lists_are_new_ones(self):
         for given in lexing.FLAT:

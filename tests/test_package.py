@@ -22,6 +22,17 @@ INTERFACE = {
                            "pending": "(self)", "current_mode": "(self)", "stack": "(self)", "copy": "(self)"}},
     "configurations": {"successors": "(lexer, configuration, character)",
                        "configurations": "(lexer, *, most=400)", "path": "(lexer, text)"},
+    "uses": {"shortest_use": "(lexer, name, *, most=400)", "never_used": "(lexer, name, value)"},
+    "differences": {"pair_successors": "(one, other, pair, character)",
+                    "pair_configurations": "(one, other, *, most=400)",
+                    "shortest_difference": "(one, other, *, most=400)", "never_differ": "(one, other, value)"},
+    "sources": {"shortest_source": "(lexer, words, *, most=400)",
+                "source_successors": "(lexer, words, position, character)",
+                "source_positions": "(lexer, words, *, most=400)", "never_source": "(lexer, words, value)"},
+    "documents": {"Document": {"__init__": "(self, lexer, text='')", "text": "(self)", "tokens": "(self)",
+                               "edit": "(self, start, stop, text)",
+                               "substitute": "(self, first, last, words, *, most=400)", "__len__": "(self)",
+                               "__eq__": "(self, other)"}},
 }
 BUILTINS = ("len range enumerate zip min max sum abs sorted reversed int str bool list tuple dict set isinstance ord "
             "repr any all divmod ValueError").split()
