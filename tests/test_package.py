@@ -33,6 +33,17 @@ INTERFACE = {
                                "edit": "(self, start, stop, text)",
                                "substitute": "(self, first, last, words, *, most=400)", "__len__": "(self)",
                                "__eq__": "(self, other)"}},
+    "avoidable": {"shortest_avoidable": "(lexer, *, most=400)", "avoidable_items": "(lexer, *, most=400)",
+                  "never_avoidable": "(lexer, value)"},
+    "lookahead": {"lookahead": "(lexer, *, most=400)", "lookahead_at_most": "(lexer, bound, value)"},
+    "notation": {"format_pattern": "(pattern)", "format_lexer": "(lexer)", "parse_pattern": "(alphabet, text)",
+                 "parse_lexer": "(text)"},
+    "workspace": {"Workspace": {"__init__": "(self)", "define": "(self, name, lexer)", "remove": "(self, name)",
+                                "create": "(self, document, lexer, text='')", "close": "(self, document)",
+                                "undo": "(self)", "redo": "(self)", "edit": "(self, document, start, stop, text)",
+                                "substitute": "(self, document, first, last, words, *, most=400)",
+                                "lexers": "(self)", "documents": "(self)", "lexer_of": "(self, name)",
+                                "document_of": "(self, name)", "uses": "(self, document)", "copy": "(self)"}},
 }
 BUILTINS = ("len range enumerate zip min max sum abs sorted reversed int str bool list tuple dict set isinstance ord "
             "repr any all divmod ValueError").split()
