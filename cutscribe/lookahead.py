@@ -84,6 +84,7 @@ def _nodes(texts, reads):
 
 def _edges(reads, pair):
     """Return the edges of the node of a configuration with these reads and one of its pending pairs."""
+    # A character without ways adds no edge: what is scanned by it is counted where the text has its path.
     edges = []
     for character, moves, _, ways in reads:
         if moves[pair] is None:

@@ -126,6 +126,35 @@ class Package(unittest.TestCase):
                 elif isinstance(node, ast.Name) and not isinstance(node.ctx, ast.Load):
                     self.assertNotIn(node.id, bound, name)
 
+    def test_it_contains_no_generators_and_no_percent_signs(self):
+        for name in files():
+            for node in ast.walk(ast.parse(source(name))):
+                self.assertNotIsInstance(node, (ast.GeneratorExp, ast.Yield, ast.YieldFrom, ast.Global), name)
+                if isinstance(node, ast.Constant) and isinstance(node.value, str):
+                    self.assertNotIn("%", node.value, name)
+
+    def test_no_name_is_a_method_and_an_attribute(self):
+        methods, attributes = set(), set()
+        for name in files():
+            for node in ast.walk(ast.parse(source(name))):
+                if isinstance(node, ast.ClassDef):
+                    methods.update(part.name for part in node.body if isinstance(part, ast.FunctionDef))
+                elif isinstance(node, ast.Attribute) and isinstance(node.ctx, ast.Store):
+                    attributes.add(node.attr)
+        self.assertEqual(methods & attributes, set())
+
+    def test_no_two_files_import_from_each_other(self):
+        imports = {}
+        for name in files():
+            found = [node.module for node in ast.parse(source(name)).body if isinstance(node, ast.ImportFrom)]
+            imports["cutscribe." + name[:-len(".py")]] = found
+        left = dict(imports)
+        while left:
+            free = [name for name, found in left.items() if not any(other in left for other in found)]
+            self.assertNotEqual(free, [])
+            for name in free:
+                del left[name]
+
 
 if __name__ == "__main__":
     unittest.main()
